@@ -130,6 +130,25 @@ func (l lent) checkKept(t *testing.T, name string, results ...[]int) {
 	}
 }
 
+// checkApart reports results that share memory with each other.
+func checkApart(t *testing.T, name string, results ...[]int) {
+	t.Helper()
+	for i, r := range results {
+		r = r[:cap(r)]
+		for k := range r {
+			r[k] = i
+		}
+	}
+	for i, r := range results {
+		for _, n := range r {
+			if n != i {
+				t.Errorf("%s: results %d and %d share memory", name, i, n)
+				break
+			}
+		}
+	}
+}
+
 // textsOf calls visit with every text of at most most bytes of an alphabet.
 func textsOf(alphabet string, most int, visit func(string)) {
 	text := make([]byte, 0, most)
