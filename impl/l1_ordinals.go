@@ -159,6 +159,11 @@ func OrdKind(o []int) int {
 	if !OrdValid(o) {
 		return -1
 	}
+	return kindOf(o)
+}
+
+// kindOf returns the kind of a valid ordinal.
+func kindOf(o []int) int {
 	terms := termsOf(o)
 	if len(terms) == 0 {
 		return 0
@@ -188,13 +193,17 @@ func OrdBefore(o []int) ([]int, bool) {
 	if OrdKind(o) != 1 {
 		return nil, false
 	}
-	terms := termsOf(o)
+	return ordOfTerms(lastLessByOne(termsOf(o))), true
+}
+
+// lastLessByOne makes the number of the last one of terms less by 1, and leaves this out if it would have none.
+func lastLessByOne(terms []term) []term {
 	last := len(terms) - 1
 	terms[last].times--
 	if terms[last].times == 0 {
-		terms = terms[:last]
+		return terms[:last]
 	}
-	return ordOfTerms(terms), true
+	return terms
 }
 
 // OrdDepth returns how deep the exponents of a valid ordinal are: 0 for the ordinal 0, and otherwise one more than the depth of its first exponent; -1 for other ordinals.
